@@ -1,0 +1,1 @@
+"""Ages of layers: what ages the marks of counted cores can have."""

@@ -1,0 +1,97 @@
+"""Makes calls for layerages.desk.answers and takes its answers apart."""
+
+from layerages.desk import answers
+
+FAR = 1000000000000000000
+CLEAR = [0]
+TIMES = [10]
+POSSIBLE = [11]
+
+
+def numbers_of(text):
+    """The bytes of a text; a list of numbers stays as it is."""
+    return [ord(sign) for sign in text] if isinstance(text, str) else list(text)
+
+
+def row(text):
+    return [len(numbers_of(text))] + numbers_of(text)
+
+
+def core(c, text):
+    return [1, c] + row(text)
+
+
+def drop(c):
+    return [2, c]
+
+
+def print_core(c):
+    return [3, c]
+
+
+def parts(c):
+    return [4, c]
+
+
+def say(kind, a, one, two=""):
+    return [5, kind, a] + row(one) + row(two)
+
+
+def aside(k):
+    return [6, k]
+
+
+def back(k):
+    return [7, k]
+
+
+def whole(c, on):
+    return [8, c, on]
+
+
+def said(k):
+    return [9, k]
+
+
+def bounds(name):
+    return [12] + row(name)
+
+
+def told_times(*names):
+    """What times answers where these are the names."""
+    told = [9 + len(names)]
+    for name in names:
+        told += row(name)
+    return told
+
+
+def ask(*calls):
+    """The answers, one list for each call."""
+    asked = []
+    for call in calls:
+        asked += call
+    told = answers(asked)
+    found = []
+    place = 0
+    while place < len(told):
+        end = place + 1 + told[place]
+        found.append(told[place + 1:end])
+        place = end
+    if place != len(told) or len(found) != len(calls):
+        raise AssertionError(f"{len(calls)} calls, but the answers are {told!r}")
+    return found
+
+
+def last(*calls):
+    """The answer to the last call."""
+    return ask(*calls)[-1]
+
+
+def state(cores=4, things=13):
+    """Calls that show all that's kept: a refusal must leave their answers as they were."""
+    calls = [TIMES, POSSIBLE]
+    for c in range(cores):
+        calls += [print_core(c), parts(c)]
+    for k in range(things):
+        calls.append(said(k))
+    return calls
