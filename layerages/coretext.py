@@ -20,6 +20,9 @@ LETTER_Y = 121
 MOST_DIGITS = 4
 MOST_MARKS = 12
 
+# No name is empty, so that a mark with this one is none of the core's own.
+CUT_NAME = ()
+
 
 class Item:
     """One item: the years it takes at least and at most, a mark's name, and the place behind it in the text."""
@@ -179,3 +182,33 @@ def stretches(parts):
             most = 0
     found.append((least, most))
     return found
+
+
+def layers_in(item):
+    return item.most if item.kind == LAYERS or item.kind == DOUBTFUL else 0
+
+
+def layers_count(parts):
+    """How many layers the items have, doubtful ones counted too."""
+    return sum([layers_in(item) for item in parts])
+
+
+def some_layers(item, how_many):
+    """An item of so many of the item's layers, perhaps of none."""
+    return Item(item.kind, how_many if item.kind == LAYERS else 0, how_many, (), item.behind)
+
+
+def cut_below_layer(parts, i):
+    """The items with a mark of the name CUT_NAME at the lower end of the i-th layer."""
+    cut = []
+    left = i
+    for item in parts:
+        how_many = layers_in(item)
+        if 0 < left <= how_many:
+            cut.append(some_layers(item, left))
+            cut.append(Item(MARK, 0, 0, CUT_NAME, item.behind))
+            cut.append(some_layers(item, how_many - left))
+        else:
+            cut.append(item)
+        left -= how_many
+    return cut

@@ -1,7 +1,15 @@
 """The desk: takes a list of calls and gives back the list of their answers."""
 
+from layerages.findings import FINDING_CALLS
 from layerages.record import Record
-from layerages.replies import CALLS
+from layerages.replies import RECORD_CALLS
+
+
+def call_by_number(number):
+    """How many whole numbers the call has, how many rows, and what answers it."""
+    if number < len(RECORD_CALLS):
+        return RECORD_CALLS[number]
+    return FINDING_CALLS[number - len(RECORD_CALLS)]
 
 
 def read_rows(calls, place, how_many):
@@ -20,7 +28,7 @@ def answers(calls):
     told = []
     place = 0
     while place < len(calls):
-        call = CALLS[calls[place]]
+        call = call_by_number(calls[place])
         rows_at = place + 1 + call[0]
         numbers = calls[place + 1:rows_at]
         rows = read_rows(calls, rows_at, call[1])

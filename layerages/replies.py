@@ -1,29 +1,18 @@
-"""What each call does to the record and what it answers.
+"""What the calls 0 to 10 do to the record and what they answer.
 
 Each takes the record, the call's whole numbers and its rows, and gives back a list; a refusal is one number below 0.
 """
 
-from layerages.ages import all_lines, greatest_ages, least_ages
 from layerages.coretext import marks_of, read_parts, stretches, told_text, wrong_place
 from layerages.names import is_name
-from layerages.record import MOST_CORES, Core, Record, Thing, names_of, times_count
-
-OUT_OF_RANGE = -1
-UNKNOWN_NAME = -3
-NOT_THERE = -4
-TOO_MANY_NAMES = -5
-TOO_MANY_THINGS = -6
-NOT_POSSIBLE = -7
-WRONG_TEXT = -100
+from layerages.record import Core, Record, Thing, names_of, times_count
+from layerages.refusals import NOT_THERE, OUT_OF_RANGE, TOO_MANY_NAMES, TOO_MANY_THINGS, WRONG_TEXT
+from layerages.refusals import core_refusal, has_thing, is_core_number
 
 MOST_NAMES = 14
 MOST_THINGS = 12
 MOST_TEXT = 300
 MOST_YEARS = 100000
-
-
-def is_core_number(c):
-    return 0 <= c < MOST_CORES
 
 
 def is_text(row):
@@ -33,17 +22,6 @@ def is_text(row):
         if number < 0 or number > 255:
             return False
     return True
-
-
-def core_refusal(record, c):
-    """The refusal of a call that needs core c, 0 if there's none."""
-    if not is_core_number(c):
-        return OUT_OF_RANGE
-    return NOT_THERE if record.cores[c] is None else 0
-
-
-def has_thing(record, k):
-    return 0 <= k < len(record.things)
 
 
 def may_be_said(kind, years, one, two):
@@ -164,34 +142,8 @@ def reply_times(record, numbers, rows):
     return told
 
 
-def reply_possible(record, numbers, rows):
-    how_many = times_count(names_of(record.cores, record.things))
-    return [0 if least_ages(all_lines(record), how_many) is None else 1]
-
-
-def told_greatest(age):
-    """A greatest age as two numbers, also where there's none."""
-    return [0, 0] if age is None else [1, age]
-
-
-def reply_bounds(record, numbers, rows):
-    name = tuple(rows[0])
-    if not is_name(name):
-        return [OUT_OF_RANGE]
-    names = names_of(record.cores, record.things)
-    if name not in names:
-        return [UNKNOWN_NAME]
-    lines = all_lines(record)
-    least = least_ages(lines, times_count(names))
-    if least is None:
-        return [NOT_POSSIBLE]
-    greatest = greatest_ages(lines, times_count(names))
-    time = names.index(name) + 1
-    return [0, least[time]] + told_greatest(greatest[time])
-
-
-# For each call, by its number: how many whole numbers it has, how many rows, and what answers it.
-CALLS = (
+# For each call from 0 to 10, by its number: how many whole numbers it has, how many rows, and what answers it.
+RECORD_CALLS = (
     (0, 0, reply_clear),
     (1, 1, reply_core),
     (1, 0, reply_drop),
@@ -203,6 +155,4 @@ CALLS = (
     (2, 0, reply_whole),
     (1, 0, reply_said),
     (0, 0, reply_times),
-    (0, 0, reply_possible),
-    (0, 1, reply_bounds),
 )

@@ -6,6 +6,11 @@ FAR = 1000000000000000000
 CLEAR = [0]
 TIMES = [10]
 POSSIBLE = [11]
+YOUNGEST = [17]
+OLDEST = [18]
+RING = [20]
+REPAIR = [23]
+ALL = [24]
 
 
 def numbers_of(text):
@@ -57,6 +62,34 @@ def bounds(name):
     return [12] + row(name)
 
 
+def apart(one, two):
+    return [13] + row(one) + row(two)
+
+
+def order(one, two):
+    return [14] + row(one) + row(two)
+
+
+def suppose(a, one, two):
+    return [15, a] + row(one) + row(two)
+
+
+def layer(c, i):
+    return [16, c, i]
+
+
+def why(side, name):
+    return [19, side] + row(name)
+
+
+def check(numbers):
+    return [21] + row(numbers)
+
+
+def matters(k):
+    return [22, k]
+
+
 def told_times(*names):
     """What times answers where these are the names."""
     told = [9 + len(names)]
@@ -85,6 +118,14 @@ def ask(*calls):
 def last(*calls):
     """The answer to the last call."""
     return ask(*calls)[-1]
+
+
+def told_lines(*lines):
+    """What why and ring answer where these are the chain's lines."""
+    told = [len(lines)]
+    for line in lines:
+        told += line
+    return told
 
 
 def state(cores=4, things=13):

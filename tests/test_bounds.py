@@ -1,7 +1,5 @@
 """whole, possible, bounds: promises 8 and 12, the lines, and when it can all be true."""
 
-import itertools
-import random
 import unittest
 
 from calling import (FAR, POSSIBLE, aside, ask, back, bounds, core, drop, last, print_core, row, say, whole)
@@ -143,93 +141,6 @@ class Bounds(unittest.TestCase):
         against = [say(0, 6, "A"), say(1, 5, "A"), core(0, "(B)")]
         self.assertEqual(ask(*against, bounds("A"), bounds("B"), bounds("C"), bounds("c"))[3:],
                          [[-7], [-7], [-3], [-1]])
-
-
-def some_calls(choose):
-    """A few small cores and things over the names A, B and C."""
-    calls = []
-    cores = {}
-    things = []
-    for c in range(choose.randrange(3)):
-        marks = choose.sample("ABC", choose.randrange(1, 4))
-        items = []
-        for mark in marks:
-            items.append(choose.choice([("y", 1, 1), ("2?", 0, 2), ("<1-3>", 1, 3), ("", 0, 0)]))
-        calls.append(core(c, "".join(item[0] + f"({mark})" for item, mark in zip(items, marks)) + "4y"))
-        cores[c] = [(mark, item[1], item[2]) for item, mark in zip(items, marks)]
-        if choose.randrange(5) == 0:
-            calls.append(whole(c, 0))
-            cores[c] = []
-    for k in range(choose.randrange(5)):
-        kind = choose.randrange(4)
-        names = choose.sample("ABC", 2)
-        a = choose.randrange(0 if kind == 3 else -3, 6)
-        calls.append(say(kind, a, names[0], names[1] if kind > 1 else ""))
-        if choose.randrange(5) == 0:
-            calls.append(aside(k))
-        else:
-            things.append((kind, a, names[0], names[1]))
-    return calls, list(cores.values()), things
-
-
-def core_holds(marks, ages):
-    # Only the upper end's age is free here: some age from 0 on must lie above the first mark as the items say.
-    if marks and ages[marks[0][0]] < marks[0][1]:
-        return False
-    for upper, lower in zip(marks, marks[1:]):
-        if not lower[1] <= ages[lower[0]] - ages[upper[0]] <= lower[2]:
-            return False
-    return True
-
-
-def thing_holds(thing, ages):
-    kind, a, one, two = thing
-    if kind == 0:
-        return ages[one] >= a
-    if kind == 1:
-        return ages[one] <= a
-    if kind == 2:
-        return ages[one] >= ages[two] + a
-    return abs(ages[one] - ages[two]) <= a
-
-
-class AgainstAllAges(unittest.TestCase):
-    """Tries all ages up to a limit.
-
-    A line here has a number of at most 5, so with three names a greatest age is at most 15; and where there's
-    none, the age comes within 10 of the limit.
-    """
-
-    LIMIT = 27
-    GREATEST = 15
-
-    def true_ages(self, cores, things):
-        found = []
-        for tried in itertools.product(range(self.LIMIT + 1), repeat=3):
-            ages = dict(zip("ABC", tried))
-            if all(thing_holds(thing, ages) for thing in things) and all(core_holds(marks, ages) for marks in cores):
-                found.append(ages)
-        return found
-
-    def test_possible_and_bounds(self):
-        choose = random.Random(7)
-        seen = {0: 0, 1: 0}
-        for case in range(120):
-            calls, cores, things = some_calls(choose)
-            # A thing that says nothing new makes all three names known.
-            calls += [say(0, 0, name) for name in "ABC"]
-            found = self.true_ages(cores, things)
-            told = ask(*calls, POSSIBLE, bounds("A"), bounds("B"), bounds("C"))[-4:]
-            self.assertEqual(told[0], [1 if found else 0], calls)
-            seen[told[0][0]] += 1
-            for name, answer in zip("ABC", told[1:]):
-                due = [-7]
-                if found:
-                    greatest = max(ages[name] for ages in found)
-                    due = [0, min(ages[name] for ages in found)]
-                    due += [0, 0] if greatest > self.GREATEST else [1, greatest]
-                self.assertEqual(answer, due, (calls, name))
-        self.assertGreater(min(seen.values()), 15)
 
 
 if __name__ == "__main__":
